@@ -1,7 +1,8 @@
+import importlib
 import inspect
 import unittest
 
-from grooveway import errors, pages, rules
+from grooveway import errors, rules
 
 CLASSES = {
     "Rule": "(marks)",
@@ -18,13 +19,27 @@ METHODS = {
     "broken_at": "(self, row)",
     "keeps": "(self, row)",
 }
-PAGES = {
-    "rows_of": "(page)",
-    "number_in": "(word)",
-    "signed_in": "(word)",
-    "read_rules": "(page)",
-    "rule_row": "(rule)",
-    "rules_page": "(rule)",
+# By the module: what it holds, and the arguments it is called with.
+MODULES = {
+    "pages": {
+        "rows_of": "(page)",
+        "number_in": "(word)",
+        "signed_in": "(word)",
+        "read_rules": "(page)",
+        "rule_row": "(rule)",
+        "rules_page": "(rule)",
+    },
+    "rooms": {"Rooms": "(marks, ways)", "rooms_of": "(rule, most=60)", "living": "(rooms)"},
+    "least": {"least": "(rooms)", "parting": "(rooms, one, other)", "memory": "(rooms)"},
+    "counts": {
+        "count": "(rooms, room, length)",
+        "row_at": "(rooms, room, length, number)",
+        "number_of": "(rooms, room, row)",
+    },
+    "blocks": {"blocks_from": "(rooms, room, q)", "block_table": "(rooms, q)"},
+}
+METHODS_OF_OTHERS = {
+    ("rooms", "Rooms"): {"many": "(self)", "led": "(self, room, mark)", "walked": "(self, room, row)"},
 }
 
 
@@ -49,9 +64,17 @@ class InterfaceTest(unittest.TestCase):
                 self.assertEqual(told(getattr(getattr(rules, name), method)), arguments, (name, method))
         self.assertEqual(told(rules.All.rules_told), "(self)")
 
-    def test_functions_of_pages(self):
-        for name, arguments in PAGES.items():
-            self.assertEqual(told(getattr(pages, name)), arguments, name)
+    def test_what_the_other_modules_hold(self):
+        for module, names in MODULES.items():
+            for name, arguments in names.items():
+                thing = getattr(importlib.import_module("grooveway." + module), name)
+                self.assertEqual(told(thing), arguments, (module, name))
+
+    def test_methods_of_other_classes(self):
+        for (module, name), methods in METHODS_OF_OTHERS.items():
+            kind = getattr(importlib.import_module("grooveway." + module), name)
+            for method, arguments in methods.items():
+                self.assertEqual(told(getattr(kind, method)), arguments, (name, method))
 
 
 if __name__ == "__main__":
