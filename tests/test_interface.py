@@ -37,6 +37,20 @@ MODULES = {
         "number_of": "(rooms, room, row)",
     },
     "blocks": {"blocks_from": "(rooms, room, q)", "block_table": "(rooms, q)"},
+    "solve": {"reduced": "(a, b)", "solved": "(table, right)"},
+    "weights": {
+        "press": "(table, n)",
+        "most_signs": "(table)",
+        "bears": "(table, n, weights)",
+        "shrunk": "(table, n, weights)",
+        "rounds": "(table, n, weights)",
+        "verdict": "(table, n, most=16)",
+    },
+    "parts": {
+        "tied_parts": "(table, among)",
+        "closed_part": "(table, weights)",
+        "lead_to": "(rooms, part)",
+    },
 }
 METHODS_OF_OTHERS = {
     ("rooms", "Rooms"): {"many": "(self)", "led": "(self, room, mark)", "walked": "(self, room, row)"},
