@@ -51,9 +51,28 @@ MODULES = {
         "closed_part": "(table, weights)",
         "lead_to": "(rooms, part)",
     },
+    "web": {
+        "Web": "(homes, weights, ways)",
+        "web_of": "(rooms, q, weights, part)",
+        "web_bears": "(web, n)",
+    },
+    "split": {
+        "choice": "(web, n)",
+        "split": "(web, n, place, picks)",
+        "evened": "(web)",
+        "finished": "(web, n)",
+    },
+    "table": {
+        "Table": "(lead, first, ahead, homes, ways)",
+        "look_of": "(homes, ways)",
+        "table_of": "(web, n, lead, home)",
+    },
+    "writing": {"written": "(table, signs)", "read": "(table, row)"},
 }
 METHODS_OF_OTHERS = {
     ("rooms", "Rooms"): {"many": "(self)", "led": "(self, room, mark)", "walked": "(self, room, row)"},
+    ("web", "Web"): {"many": "(self)"},
+    ("table", "Table"): {"signs": "(self)", "block_length": "(self)"},
 }
 
 
