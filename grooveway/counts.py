@@ -25,10 +25,10 @@ def rows_ahead(rooms, room, mark, counts):
     return sum([counts[to] for to in own if to is not None])
 
 
-# The row of this number begins with the last mark that has no more rows than that ahead of it.
+# The row of this number begins with the last mark that has no more rows than that ahead of it: a mark that leads
+# to no room has as many ahead of it as the next one.
 def mark_at(rooms, room, number, counts):
-    ahead = [mark for mark in rooms.marks if rooms.led(room, mark) is not None]
-    return [mark for mark in ahead if rows_ahead(rooms, room, mark, counts) <= number][-1]
+    return [mark for mark in rooms.marks if rows_ahead(rooms, room, mark, counts) <= number][-1]
 
 
 def row_at(rooms, room, length, number):

@@ -68,6 +68,10 @@ MODULES = {
         "table_of": "(web, n, lead, home)",
     },
     "writing": {"written": "(table, signs)", "read": "(table, row)"},
+    "windows": {"sign_at": "(rooms, table, past, blocks)", "read_windows": "(rooms, table, row)"},
+    "judge": {"judged": "(rooms, table)"},
+    "tables": {"table_text": "(table)", "read_table": "(text)"},
+    "whole": {"answered": "(page, n, q, most=16)", "looked": "(page, n, q, text, most=16)"},
 }
 METHODS_OF_OTHERS = {
     ("rooms", "Rooms"): {"many": "(self)", "led": "(self, room, mark)", "walked": "(self, room, row)"},

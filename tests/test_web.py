@@ -21,6 +21,7 @@ class WebTest(unittest.TestCase):
             Web(list(homes), weights, [[list(way) for way in own] for own in ways]),
             Web(homes, weights, (ways[0], [list(way) for way in ways[1]])),
             Web(homes, weights, tuple(tuple(list(way) for way in own) for own in ways)),
+            Web(homes, weights, (ways[0], (ways[1][0], list(ways[1][1])))),
         ]
         for web in told:
             self.assertEqual(told_web(web), (homes, weights, ways))

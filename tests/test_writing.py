@@ -84,6 +84,12 @@ class ReadTest(unittest.TestCase):
         for row in ("a", "aaa", "abb", "abbbabb"):
             with self.subTest(row=row), self.assertRaises(Unread):
                 read(PLAIN, row)
+        # Where what is left over would stand among the blocks that no sign is told for.
+        far = Table("b", 0, 2, [0], [[("ab", 0), ("ba", 0)]])
+        self.assertEqual(read(far, "babab"), [])
+        for row in ("baba", "bababa"):
+            with self.subTest(row=row), self.assertRaises(Unread):
+                read(far, row)
 
     def test_too_few_blocks(self):
         self.assertRaises(Unread, read, LATE, "c")
