@@ -20,15 +20,20 @@ def rows_of(page):
     return rows
 
 
-def number_in(word):
-    if len(word) < 1 or len(word) > 2:
+# The number that a word of at most so many figures writes, or None.
+def whole_in(word, figures):
+    if len(word) < 1 or len(word) > figures:
         return None
     # `int` alone would also read blanks, a sign ahead and noughts ahead.
     if not all([sign in FIGURES for sign in word]):
         return None
-    if len(word) == 2 and word[0] == "0":
+    if len(word) > 1 and word[0] == "0":
         return None
     return int(word)
+
+
+def number_in(word):
+    return whole_in(word, 2)
 
 
 def signed_in(word):

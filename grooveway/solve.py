@@ -16,15 +16,17 @@ def reduced(a, b):
     return (a // common, b // common)
 
 
-# Puts a row that has no nought in front to this place, and tells whether there is one from the place on.
-def brought_up(rows, place):
-    for number in range(place, len(rows)):
-        if rows[number][0] != 0:
-            taken = rows[number]
-            rows[number] = rows[place]
-            rows[place] = taken
-            return True
-    return False
+# The number of the first row from the place on that has no nought in front, or None.
+def row_to_take(rows, place):
+    fit = [number for number in range(place, len(rows)) if rows[number][0] != 0]
+    return fit[0] if len(fit) > 0 else None
+
+
+def exchanged(rows, one, other):
+    told = list(rows)
+    told[one] = rows[other]
+    told[other] = rows[one]
+    return told
 
 
 # Takes the front numbers away. Whole numbers stay whole: each step can be divided by the front number that
@@ -44,10 +46,11 @@ def cleared(rows, place, divided_by):
 def solved(table, right):
     rows = [list(numbers) + [end] for numbers, end in zip(table, right)]
     last = 1
-    for place in range(len(rows)):
-        if not brought_up(rows, place):
+    for place in range(len(table)):
+        number = row_to_take(rows, place)
+        if number is None:
             return None
-        front = rows[place][0]
-        rows = cleared(rows, place, last)
+        front = rows[number][0]
+        rows = cleared(exchanged(rows, number, place), place, last)
         last = front
     return [reduced(row[0], last) for row in rows]

@@ -1,10 +1,9 @@
 """Tables written as texts, and read from them."""
 
 from grooveway.errors import BadTable
+from grooveway.pages import whole_in
+from grooveway.rules import MARK_SIGNS
 from grooveway.table import Table
-
-FIGURES = "0123456789"
-ROW_SIGNS = "abcdefghijklmnopqrstuvwxyz0123456789"
 
 
 def place_rows(home, ways):
@@ -21,18 +20,6 @@ def table_text(table):
     return "\n".join(rows)
 
 
-# The number that a word of at most so many figures writes, or None.
-def whole_in(word, figures):
-    if len(word) < 1 or len(word) > figures:
-        return None
-    # `int` alone would also read blanks, a sign ahead and noughts ahead.
-    if not all([sign in FIGURES for sign in word]):
-        return None
-    if len(word) > 1 and word[0] == "0":
-        return None
-    return int(word)
-
-
 # The words behind a row's name, or None where it hasn't that name or just so many of them. Two blanks side by
 # side have an empty word between them, which is never one that may stand.
 def words_behind(row, name, many):
@@ -43,7 +30,7 @@ def words_behind(row, name, many):
 
 
 def is_row(word):
-    return len(word) > 0 and all([sign in ROW_SIGNS for sign in word])
+    return len(word) > 0 and all([sign in MARK_SIGNS for sign in word])
 
 
 def place_in(word, places):

@@ -4,12 +4,12 @@ from grooveway.blocks import block_table
 from grooveway.errors import BadTable
 from grooveway.judge import judged
 from grooveway.least import least
-from grooveway.pages import read_rules
+from grooveway.pages import read_rules, whole_in
 from grooveway.parts import closed_part, lead_to
 from grooveway.rooms import living, rooms_of
 from grooveway.split import finished
 from grooveway.table import table_of
-from grooveway.tables import read_table, table_text, whole_in, words_behind
+from grooveway.tables import read_table, table_text, words_behind
 from grooveway.web import web_of
 from grooveway.weights import beginnings, press, shrunk, verdict
 
